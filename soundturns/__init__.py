@@ -1,0 +1,1 @@
+"""Soundturns: changes of sound, and the forms that they make."""

@@ -1,0 +1,113 @@
+"""Those rules of the language subset that can be seen in the files of the package."""
+
+import ast
+import builtins
+import unittest
+from pathlib import Path
+
+PACKAGE = Path(__file__).resolve().parent.parent / "soundturns"
+
+BUILTINS = set(
+    "len range enumerate zip min max sum abs sorted reversed int str bool bytes list tuple dict set"
+    " isinstance ord repr any all divmod pow map iter next Exception ValueError TypeError KeyError"
+    " IndexError LookupError ZeroDivisionError ArithmeticError OverflowError RuntimeError"
+    " NotImplementedError StopIteration NotImplemented".split())
+
+METHODS = set(
+    "append clear copy count endswith extend find get index insert isalnum isalpha isdigit islower"
+    " isspace isupper items join keys ljust lower lstrip partition pop remove replace reverse rfind"
+    " rjust rpartition rsplit rstrip setdefault split splitlines startswith strip update upper"
+    " values zfill bit_length add discard sort".split())
+
+NOT_ALLOWED = (ast.Global, ast.AsyncFunctionDef, ast.AsyncFor, ast.AsyncWith, ast.Await, ast.Div,
+               ast.Import, ast.MatMult)
+
+LIBRARY = ("heapq", "math", "itertools", "collections")
+
+
+def sources():
+    """Return the pairs of the path and the text of each file of the package."""
+    return [(path, path.read_text(encoding="utf-8")) for path in sorted(PACKAGE.rglob("*.py"))]
+
+
+def nodes():
+    """Return the pairs of the path of a file and each part of its tree."""
+    return [(path, node) for path, text in sources() for node in ast.walk(ast.parse(text))]
+
+
+def defined_in(path):
+    """Return the names that the module level of a file binds by itself."""
+    names = set()
+    for node in ast.parse(path.read_text(encoding="utf-8")).body:
+        if isinstance(node, (ast.FunctionDef, ast.ClassDef)):
+            names.add(node.name)
+        elif isinstance(node, ast.Assign):
+            names.update(target.id for target in node.targets)
+    return names
+
+
+def own_methods():
+    """Return the names of the methods that the classes of the package define."""
+    return {method.name for _, node in nodes() if isinstance(node, ast.ClassDef)
+            for method in node.body if isinstance(method, ast.FunctionDef)}
+
+
+class LanguageTest(unittest.TestCase):
+    def test_the_folder_holds_files_of_the_package_alone(self):
+        for path in PACKAGE.rglob("*"):
+            if "__pycache__" not in path.parts:
+                self.assertTrue(path.is_dir() or path.suffix == ".py", path)
+        self.assertTrue((PACKAGE / "__init__.py").is_file())
+
+    def test_sizes_and_characters(self):
+        for path, text in sources():
+            self.assertLessEqual(text.count("\n"), 399, path)
+            self.assertTrue(all(char == "\n" or " " <= char <= "~" for char in text), path)
+            self.assertTrue(all(len(line) <= 120 for line in text.split("\n")), path)
+        for path, node in nodes():
+            if isinstance(node, ast.FunctionDef):
+                self.assertLessEqual(node.end_lineno - node.lineno + 1, 40, (path, node.name))
+                self.assertEqual(node.decorator_list, [], (path, node.name))
+
+    def test_nothing_of_the_language_beyond_the_subset(self):
+        for path, node in nodes():
+            self.assertNotIsInstance(node, NOT_ALLOWED, path)
+            if isinstance(node, ast.Constant):
+                self.assertNotIsInstance(node.value, (float, complex), path)
+                self.assertFalse(isinstance(node.value, str) and chr(37) in node.value, path)
+
+    def test_builtins_and_methods(self):
+        allowed = METHODS | own_methods()
+        for path, node in nodes():
+            if isinstance(node, ast.Name) and hasattr(builtins, node.id):
+                self.assertIn(node.id, BUILTINS, path)
+                self.assertIsInstance(node.ctx, ast.Load, path)
+            if isinstance(node, ast.arg):
+                self.assertFalse(hasattr(builtins, node.arg), (path, node.arg))
+            if isinstance(node, ast.Call) and isinstance(node.func, ast.Attribute):
+                self.assertIn(node.func.attr, allowed, path)
+
+    def test_imports_name_the_defining_file(self):
+        for path, node in nodes():
+            if isinstance(node, ast.ImportFrom) and node.module not in LIBRARY:
+                package, name = node.module.split(".")
+                self.assertEqual((package, node.level), ("soundturns", 0), path)
+                for part in node.names:
+                    self.assertIsNone(part.asname, path)
+                    self.assertIn(part.name, defined_in(PACKAGE / f"{name}.py"), path)
+
+    def test_no_local_name_hides_an_import_or_a_class(self):
+        for path, text in sources():
+            tree = ast.parse(text)
+            imported = {part.name for node in tree.body if isinstance(node, ast.ImportFrom)
+                        for part in node.names}
+            imported |= {node.name for node in tree.body if isinstance(node, ast.ClassDef)}
+            for node in ast.walk(tree):
+                if isinstance(node, ast.Name) and isinstance(node.ctx, ast.Store):
+                    self.assertNotIn(node.id, imported, path)
+                if isinstance(node, ast.arg):
+                    self.assertNotIn(node.arg, imported, path)
+
+
+if __name__ == "__main__":
+    unittest.main()
