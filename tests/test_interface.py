@@ -20,6 +20,16 @@ FUNCTIONS = {
     "rules": ("is_rule(k, rule)", "is_rules(k, rules)", "stands(k, rule, word)",
               "changed(k, rule, word)", "turned(k, rule)", "renamed_word(k, word, names)",
               "renamed(k, rule, names)"),
+    "texts": ("text_of_rule(k, rule)", "text_of_rules(k, rules)", "read_rule(k, text)",
+              "read_rules(k, text)"),
+    "lists": ("form_of(k, rules, word)", "steps_of(k, rules, word)", "acting(k, rules, word)",
+              "is_kept(k, rules, word)", "turned_rules(k, rules)",
+              "renamed_rules(k, rules, names)", "settled(k, rules, word, *, most=20)"),
+    "traces": ("trace_of(k, rules, word)", "pieces(k, rules, word)",
+               "piece_of(k, rules, word, at)", "lost(k, rules, word)"),
+    "machines": ("is_machine(machine)", "is_wide(machine)", "check_machine(machine)",
+                 "check_wide(machine)", "form(machine, word)", "written(machine, word)",
+                 "state_behind(machine, word)", "still(k)"),
 }
 
 

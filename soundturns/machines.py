@@ -1,0 +1,84 @@
+"""Machines, and the forms that they make."""
+
+from soundturns.errors import NotMachine
+from soundturns.words import LETTERS, check_word, is_number_of_letters, is_word, letters_of
+
+MOST_STATES = 200
+MOST_WIDE_STATES = 2000
+
+
+def _is_row(k, row, states):
+    """Return True if a row of a machine with so many states is one, otherwise False."""
+    last, entries = row
+    if not is_word(k, last) or len(entries) != k:
+        return False
+    for out, after in entries:
+        if not is_word(k, out) or after < 0 or after >= states:
+            return False
+    return True
+
+
+def _has_form(machine, most):
+    """Return True if a tuple is a machine with at most so many states, otherwise False."""
+    k, first, rows = machine
+    if not is_number_of_letters(k) or not is_word(k, first):
+        return False
+    states = len(rows)
+    return 1 <= states <= most and all([_is_row(k, row, states) for row in rows])
+
+
+def is_machine(machine):
+    """Return True if a tuple is a machine, otherwise False."""
+    return _has_form(machine, MOST_STATES)
+
+
+def is_wide(machine):
+    """Return True if a tuple is a wide machine, otherwise False."""
+    return _has_form(machine, MOST_WIDE_STATES)
+
+
+def check_machine(machine):
+    """Return None, or raise NotMachine if a tuple is no machine."""
+    if not is_machine(machine):
+        raise NotMachine("a tuple is no machine")
+
+
+def check_wide(machine):
+    """Return None, or raise NotMachine if a tuple is no wide machine."""
+    if not is_wide(machine):
+        raise NotMachine("a tuple is no wide machine")
+
+
+def _read(machine, word):
+    """Return what a machine has written behind a word, and the state in which it is then."""
+    check_wide(machine)
+    k, first, rows = machine
+    check_word(k, word)
+    state = 0
+    outs = [first]
+    for letter in word:
+        out, state = rows[state][1][LETTERS.index(letter)]
+        outs.append(out)
+    return "".join(outs), state
+
+
+def form(machine, word):
+    """Return the form of a word by a wide machine."""
+    told, state = _read(machine, word)
+    return told + machine[2][state][0]
+
+
+def written(machine, word):
+    """Return what a wide machine has written behind a word."""
+    return _read(machine, word)[0]
+
+
+def state_behind(machine, word):
+    """Return the state in which a wide machine is behind a word."""
+    return _read(machine, word)[1]
+
+
+def still(k):
+    """Return the machine with one state that changes no word."""
+    entries = tuple([(letter, 0) for letter in letters_of(k)])
+    return k, "", (("", entries),)
