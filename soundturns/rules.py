@@ -1,7 +1,7 @@
 """Rules, what they change, and rules turned about and renamed."""
 
 from soundturns.errors import NotRule, NotWord
-from soundturns.words import check_word, letters_of
+from soundturns.words import check_number, check_word, letters_of
 
 EDGE = "#"
 MOST_NEW = 3
@@ -40,7 +40,7 @@ def is_rule(k, rule):
 
 def is_rules(k, rules):
     """Return True if a tuple is a list of rules, otherwise False."""
-    letters_of(k)
+    check_number(k)
     return len(rules) <= MOST_RULES and all([is_rule(k, rule) for rule in rules])
 
 

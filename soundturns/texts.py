@@ -22,7 +22,7 @@ def text_of_rule(k, rule):
 def text_of_rules(k, rules):
     """Return the text of a list of rules."""
     check_rules(k, rules)
-    return f" {SEMICOLON} ".join([text_of_rule(k, rule) for rule in rules]) or NO_RULES
+    return " ; ".join([text_of_rule(k, rule) for rule in rules]) or NO_RULES
 
 
 def _word_at(words, at):
