@@ -1,7 +1,7 @@
 """Machines, and the forms that they make."""
 
-from soundturns.errors import NotMachine
-from soundturns.words import LETTERS, check_word, is_number_of_letters, is_word, letters_of
+from soundturns.errors import BadNumber, NotMachine, TooLarge
+from soundturns.words import LETTERS, LONGEST, check_word, is_number_of_letters, is_word, letters_of
 
 MOST_STATES = 200
 MOST_WIDE_STATES = 2000
@@ -49,17 +49,48 @@ def check_wide(machine):
         raise NotMachine("a tuple is no wide machine")
 
 
+def check_both(one, other):
+    """Return None, or raise NotMachine for the first that is no wide machine, then BadNumber."""
+    check_wide(one)
+    check_wide(other)
+    if one[0] != other[0]:
+        raise BadNumber("two machines have different numbers of letters")
+
+
+def bounded(word):
+    """Return a word of a machine that is made, or raise TooLarge if it is too long for one."""
+    if len(word) > LONGEST:
+        raise TooLarge("a word of a machine has more than 60 letters")
+    return word
+
+
+def states_after(rows):
+    """Return the tuples of the states behind each state, one for each letter."""
+    return [tuple([after for _, after in entries]) for _, entries in rows]
+
+
+def read_on(rows, state, word):
+    """Return what is written while a word is read in a state, and the state behind it; nothing is checked."""
+    outs = []
+    for letter in word:
+        out, state = rows[state][1][LETTERS.index(letter)]
+        outs.append(out)
+    return "".join(outs), state
+
+
+def form_from(rows, state, word):
+    """Return what is written from a state on if a word is read and ends; nothing is checked."""
+    told, state = read_on(rows, state, word)
+    return told + rows[state][0]
+
+
 def _read(machine, word):
     """Return what a machine has written behind a word, and the state in which it is then."""
     check_wide(machine)
     k, first, rows = machine
     check_word(k, word)
-    state = 0
-    outs = [first]
-    for letter in word:
-        out, state = rows[state][1][LETTERS.index(letter)]
-        outs.append(out)
-    return "".join(outs), state
+    told, state = read_on(rows, 0, word)
+    return first + told, state
 
 
 def form(machine, word):

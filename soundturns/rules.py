@@ -77,11 +77,15 @@ def _all_fit(places, word, begin):
     return True
 
 
+def stands_at(rule, word, at):
+    """Return True if a rule stands at an index of a word of any length; nothing is checked."""
+    letter, _, left, right = rule
+    return word[at] == letter and _all_fit(left, word, at - len(left)) and _all_fit(right, word, at + 1)
+
+
 def indexes_of(rule, word):
     """Return the indexes at which a rule stands in a word of any length; nothing is checked."""
-    letter, _, left, right = rule
-    return [at for at, found in enumerate(word) if found == letter
-            and _all_fit(left, word, at - len(left)) and _all_fit(right, word, at + 1)]
+    return [at for at in range(len(word)) if stands_at(rule, word, at)]
 
 
 def parts_of(rule, word):

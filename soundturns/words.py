@@ -83,3 +83,12 @@ def common(one, other):
             break
         many += 1
     return one[:many]
+
+
+def left_over(one, other):
+    """Return what is left of two words without their common beginning, or None if both are left."""
+    if one.startswith(other):
+        return one[len(other):], ""
+    if other.startswith(one):
+        return "", other[len(one):]
+    return None

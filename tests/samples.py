@@ -3,6 +3,9 @@
 from itertools import product
 
 LETTERS = "abcdef"
+# The machine of [67], of the rule that makes `a` before `a` to `b`, and the language of [146].
+MACHINE = (2, "", (("", (("", 1), ("", 2))), ("a", (("b", 1), ("a", 2))), ("b", (("b", 1), ("b", 2)))))
+LANGUAGE = (2, ((False, (1, 2)), (True, (2, 3)), (False, (2, 2)), (True, (2, 2))))
 BAD_NUMBERS = (1, 0, 7, -1, -2, -6, 100, 10 ** 30, -10 ** 30, 10 ** 5000)
 
 
@@ -52,3 +55,79 @@ def slow_change(rule, word):
     """Return the word that a rule makes, by the indexes above."""
     places = slow_indexes(rule, word)
     return "".join(rule[1] if at in places else letter for at, letter in enumerate(word))
+
+
+def first_in_order(words):
+    """Return the first of some words, in the order of words, or None if there is none."""
+    return min(words, key=lambda word: (len(word), word), default=None)
+
+
+def ring(states, k=2, text=""):
+    """Return a machine whose states follow one another for ever, with a word to write."""
+    rows = [(text, tuple((text, (state + 1) % states) for _ in range(k))) for state in range(states)]
+    return k, text, tuple(rows)
+
+
+def read_slowly(machine, word):
+    """Return what a machine has written behind a word of any length, and its state there."""
+    told = machine[1]
+    state = 0
+    for letter in word:
+        out, state = machine[2][state][1][LETTERS.index(letter)]
+        told += out
+    return told, state
+
+
+def slow_form(machine, word):
+    """Return the form of a word of any length."""
+    told, state = read_slowly(machine, word)
+    return told + machine[2][state][0]
+
+
+def some_word(random, k, length):
+    """Return a word of at most so many letters, by a source of random numbers."""
+    return "".join(random.choice(LETTERS[:k]) for _ in range(random.randint(0, length)))
+
+
+def some_machine(random, k, states, length):
+    """Return a machine with words of at most so many letters, by a source of random numbers."""
+    rows = [(some_word(random, k, length),
+             tuple((some_word(random, k, length), random.randrange(states)) for _ in range(k)))
+            for _ in range(states)]
+    return k, some_word(random, k, length), tuple(rows)
+
+
+def some_language(random, k, states):
+    """Return a language, by a source of random numbers."""
+    return k, tuple((random.random() < 0.4, tuple(random.randrange(states) for _ in range(k)))
+                    for _ in range(states))
+
+
+def some_rule(random, k):
+    """Return a rule, by a source of random numbers."""
+    return (random.choice(LETTERS[:k]), some_word(random, k, 2), random.choice(left_contexts(k)),
+            random.choice(right_contexts(k)))
+
+
+def slow_takes(language, word):
+    """Return whether a language takes a word of any length."""
+    state = 0
+    for letter in word:
+        state = language[1][state][1][LETTERS.index(letter)]
+    return language[1][state][0]
+
+
+def states_by_words(nexts):
+    """Return the first words that lead to the states, by states, found word by word."""
+    found = {0: ""}
+    level = [("", 0)]
+    while level:
+        level = [(word + letter, after) for word, state in level
+                 for letter, after in zip(LETTERS, nexts[state])]
+        new = []
+        for word, after in level:
+            if after not in found:
+                found[after] = word
+                new.append((word, after))
+        level = new
+    return found

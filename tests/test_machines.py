@@ -5,16 +5,10 @@ import unittest
 from soundturns import machines
 from soundturns.errors import BadNumber, NotMachine, NotWord
 from soundturns.rules import changed
-from tests.samples import BAD_NUMBERS, LETTERS, words_up_to
+from tests.samples import BAD_NUMBERS, LETTERS, MACHINE, ring, words_up_to
 
-EXAMPLE = (2, "", (("", (("", 1), ("", 2))), ("a", (("b", 1), ("a", 2))), ("b", (("b", 1), ("b", 2)))))
+EXAMPLE = MACHINE
 USES = (machines.form, machines.written, machines.state_behind)
-
-
-def ring(states, k=2, text=""):
-    """Return a machine whose states follow one another for ever, with a word to write."""
-    rows = [(text, tuple((text, (state + 1) % states) for _ in range(k))) for state in range(states)]
-    return k, text, tuple(rows)
 
 
 def with_first(first):
