@@ -223,7 +223,7 @@ def turned_language(language):
     nexts = language_nexts(language)
     befores = [_masks_before(nexts, at) for at in range(k)]
     start = mask_of(accepting_states(language))
-    return least_explored(k, start, lambda mask: _turned_after(befores, mask), lambda mask: mask & 1 == 1)
+    return least_explored(k, start, lambda mask: _turned_after(befores, mask), lambda found: found & 1 == 1)
 
 
 def first_word(language):

@@ -87,6 +87,49 @@ class LanguageTest(unittest.TestCase):
             if isinstance(node, ast.Call) and isinstance(node.func, ast.Attribute):
                 self.assertIn(node.func.attr, allowed, path)
 
+    def test_what_is_iterated_at_once(self):
+        kept = (ast.ListComp, ast.DictComp, ast.SetComp)
+        for path, node in nodes():
+            self.assertNotIsInstance(node, (ast.GeneratorExp, ast.Yield, ast.YieldFrom), path)
+            # The order of the members of a set is not told, so none is iterated.
+            if isinstance(node, (ast.For, *kept)):
+                for part in [node] if isinstance(node, ast.For) else node.generators:
+                    self.assertNotIsInstance(part.iter, (ast.Set, ast.SetComp), path)
+            if isinstance(node, ast.Return) and isinstance(node.value, ast.Call):
+                self.assertNotIn(getattr(node.value.func, "id", ""), ("zip", "enumerate", "reversed", "range"), path)
+
+    def test_lambdas_with_the_same_parameters_on_one_line(self):
+        for path, text in sources():
+            seen = set()
+            for node in ast.walk(ast.parse(text)):
+                if isinstance(node, ast.Lambda):
+                    place = (node.lineno, tuple(part.arg for part in node.args.args))
+                    self.assertNotIn(place, seen, path)
+                    seen.add(place)
+
+    def test_is_stands_beside_none_true_and_false(self):
+        for path, node in nodes():
+            if isinstance(node, ast.Compare) and any(isinstance(sign, (ast.Is, ast.IsNot)) for sign in node.ops):
+                self.assertIsInstance(node.comparators[0], ast.Constant, path)
+                self.assertIn(node.comparators[0].value, (None, True, False), path)
+
+    def test_attributes(self):
+        stored = {node.attr for _, node in nodes()
+                  if isinstance(node, ast.Attribute) and isinstance(node.ctx, ast.Store)}
+        builtin = {name for kind in (str, int, list, dict, set, bytes, tuple) for name in dir(kind)}
+        self.assertEqual(stored & builtin, set())
+        self.assertEqual(stored & own_methods(), set())
+
+    def test_no_two_files_import_from_each_other(self):
+        found = {path.stem: {node.module.split(".")[1] for node in ast.parse(text).body
+                             if isinstance(node, ast.ImportFrom) and node.module not in LIBRARY}
+                 for path, text in sources()}
+        while found:
+            free = [name for name in found if not found[name] & set(found)]
+            self.assertNotEqual(free, [], found)
+            for name in free:
+                del found[name]
+
     def test_imports_name_the_defining_file(self):
         for path, node in nodes():
             if isinstance(node, ast.ImportFrom) and node.module not in LIBRARY:
