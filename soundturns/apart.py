@@ -93,7 +93,8 @@ def _met(machine):
     at = 0
     while at < len(todo):
         state, read, read2 = met[todo[at]]
-        for after, letter, letter2 in _ways_on(machine, todo[at]):
+        ways = _ways_on(machine, todo[at])
+        for after, letter, letter2 in ways:
             if after not in met:
                 _meet(met, after, (state, read + letter, read2 + letter2))
                 if after == DONE:
