@@ -151,6 +151,8 @@ class ClosedTest(unittest.TestCase):
                 self.assertIs(is_closed(MACHINE, LEAST, [entry]), False)
                 for at in range(3):
                     self.assertIs(is_closed(MACHINE, LEAST, TABLE[:at] + [entry] + TABLE[at + 1:]), False)
+                # What such a state would lead to stands in the table.
+                self.assertIs(is_closed(still(2), still(2), [(0, 0, ("", "")), entry]), False)
 
     def test_any_strings(self):
         for words in (("x", ""), ("", "#"), ("ab", "ab"), ("", "b" * 5000), ("b", ""), ("", "\u00e9")):

@@ -11,6 +11,8 @@ from soundturns.least import least
 from soundturns.machines import still
 from soundturns.making import behind, list_machine, rule_machine
 from soundturns.sources import has_source, source_language
+from soundturns.ways import explored
+from soundturns.writing import Writing
 from tests.samples import (LANGUAGE, LETTERS, MACHINE, first_in_order, ring, slow_form, slow_takes, some_language,
                            some_machine, some_rule, words_up_to)
 from tests.test_languages import round_about, slow_least, taken
@@ -38,6 +40,41 @@ def some_pairs(seed, many, length=2):
         found.append((some_machine(source, k, source.randint(1, 4), source.randint(0, length)),
                       some_language(source, k, source.randint(1, 4))))
     return found
+
+
+def closed_set(machine, language, useful, places):
+    """Return the set of some places of [162] and of all those to which the writing goes on without a letter."""
+    found = set()
+    todo = list(places)
+    while todo:
+        place = todo.pop()
+        if place in found:
+            continue
+        found.add(place)
+        state, within, rest = place
+        if rest == "" and state != -1:
+            last, entries = machine[2][state]
+            accepting, nexts = language[1][within]
+            todo.extend((after, after2, out) for (out, after), after2 in zip(entries, nexts) if after2 in useful)
+            if accepting:
+                todo.append((-1, within, last))
+    return frozenset(found)
+
+
+def slow_sets(machine, language):
+    """Return how many sets of [162] there are, the empty one among them, if it is met."""
+    useful = {state for state, row in enumerate(language[1]) if row[0]}
+    for _ in language[1]:
+        useful |= {state for state, row in enumerate(language[1]) if useful & set(row[1])}
+    start = closed_set(machine, language, useful, [(0, 0, machine[1])] if 0 in useful else [])
+    found = [start]
+    for places in found:
+        for letter in LETTERS[:machine[0]]:
+            places_behind = [(state, within, rest[1:]) for state, within, rest in places if rest.startswith(letter)]
+            behind_it = closed_set(machine, language, useful, places_behind)
+            if behind_it not in found:
+                found.append(behind_it)
+    return len(found)
 
 
 def has_source_in(machine, language, word):
@@ -139,6 +176,18 @@ class FormsTest(unittest.TestCase):
                 continue
             self.check(machine, language, made, 5)
 
+    def test_languages_of_more_states(self):
+        source = random.Random(175)
+        for _ in range(120):
+            k = source.choice((2, 3))
+            machine = some_machine(source, k, source.randint(1, 4), source.randint(1, 2))
+            language = some_language(source, k, source.randint(6, 15))
+            try:
+                made = forms(machine, language)
+            except TooLarge:
+                continue
+            self.check(machine, language, made, 4)
+
     def test_machines_of_rules(self):
         source = random.Random(164)
         for _ in range(40):
@@ -162,6 +211,13 @@ class FormsTest(unittest.TestCase):
             forms(copying_ring(23), round_about(87))
         with self.assertRaises(TooLarge):
             missing(writing_a(2000))
+
+    def test_the_sets_are_those_of_the_document(self):
+        for machine, language in some_pairs(176, 300, 4):
+            many = slow_sets(machine, language)
+            writing = Writing(machine, language)
+            places, _ = explored(writing.beginning(), writing.behind, many)
+            self.assertEqual(len(places), many)
 
     def test_many_sets(self):
         # The last ten letters are told, and whether a `c` was among the letters, which is never written.
@@ -339,9 +395,12 @@ class ErrorsTest(unittest.TestCase):
                     (writing_a(2000), round_about(2000, 3), round_about(1999), BadNumber)):
                 with self.assertRaises(error):
                     call(machine, one, other)
-        for call in (all_forms, missing):
-            with self.assertRaises(NotMachine):
-                call(bad_machine)
+        for machine in (bad_machine, (7, "", (("", (("", 0),) * 7),)), (1, "", (("", (("", 0),)),)), (2, "", ()),
+                        (2, "c", SILENT[2])):
+            for call in (all_forms, missing, lambda machine: is_form(machine, "#"),
+                         lambda machine: forms(machine, bad), lambda machine: sources(machine, bad)):
+                with self.assertRaises(NotMachine):
+                    call(machine)
 
     def test_wide_machines(self):
         source = random.Random(174)
