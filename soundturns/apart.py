@@ -6,7 +6,7 @@ from soundturns.ways import first_words
 from soundturns.words import LETTERS, in_order, left_over
 
 ENDED = -1
-DONE = (ENDED, ENDED, ("", ""))
+DONE = (-1, -1, ("", ""))
 MOST_PLACES = 4000
 
 
