@@ -93,10 +93,15 @@ def least_table(one, other):
     return table if word is None else None
 
 
+def first_apart(one, other):
+    """Return what `first_word` returns; only the number of the pairs that are met is checked."""
+    return _search(one, other)[1]
+
+
 def first_word(one, other):
     """Return the first word whose forms by two wide machines differ, or None if there is none."""
     check_both(one, other)
-    return _search(one, other)[1]
+    return first_apart(one, other)
 
 
 def answer(one, other):

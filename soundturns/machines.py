@@ -1,7 +1,7 @@
 """Machines, and the forms that they make."""
 
 from soundturns.errors import BadNumber, NotMachine, TooLarge
-from soundturns.words import LETTERS, LONGEST, check_word, is_number_of_letters, is_word, letters_of
+from soundturns.words import LETTERS, LONGEST, check_number, check_word, is_number_of_letters, is_word
 
 MOST_STATES = 200
 MOST_WIDE_STATES = 2000
@@ -109,7 +109,12 @@ def state_behind(machine, word):
     return _read(machine, word)[1]
 
 
+def unchanging(k):
+    """Return the machine with one state that changes no word; nothing is checked."""
+    return k, "", (("", tuple([(letter, 0) for letter in LETTERS[:max(0, k)]])),)
+
+
 def still(k):
     """Return the machine with one state that changes no word."""
-    entries = tuple([(letter, 0) for letter in letters_of(k)])
-    return k, "", (("", entries),)
+    check_number(k)
+    return unchanging(k)

@@ -67,10 +67,31 @@ def behind(one, other):
     return machine_behind(one, other)
 
 
+class Maker:
+    """Makes the least machines of lists of rules of k letters; nothing is checked but their sizes.
+
+    Lists that are asked for one after another often begin alike, so what is made is kept.
+    """
+
+    def __init__(self, k):
+        self.k = k
+        self.parts = {}
+        self.found = {(): still(k)}
+
+    def part(self, rule):
+        """Return the least machine of a rule."""
+        if rule not in self.parts:
+            self.parts[rule] = least_machine(rule_machine(self.k, rule))
+        return self.parts[rule]
+
+    def made(self, rules):
+        """Return the least machine of a list of rules."""
+        if rules not in self.found:
+            self.found[rules] = least_machine(machine_behind(self.made(rules[:-1]), self.part(rules[-1])))
+        return self.found[rules]
+
+
 def list_machine(k, rules):
     """Return the least machine of a list of rules."""
     check_rules(k, rules)
-    made = still(k)
-    for rule in rules:
-        made = least_machine(machine_behind(made, least_machine(rule_machine(k, rule))))
-    return made
+    return Maker(k).made(rules)

@@ -131,3 +131,26 @@ def states_by_words(nexts):
                 new.append((word, after))
         level = new
     return found
+
+
+def slow_list(rules, word):
+    """Return the form of a word of any length by a list of rules."""
+    for rule in rules:
+        word = slow_change(rule, word)
+    return word
+
+
+def some_list(random, k, most):
+    """Return a list of at most so many rules, by a source of random numbers."""
+    return tuple(some_rule(random, k) for _ in range(random.randint(0, most)))
+
+
+def small_rule(random, k):
+    """Return a rule with at most one place on each side, by a source of random numbers."""
+    sides = [(), ("#",)] + [(place,) for place in sets_of(k)]
+    return random.choice(LETTERS[:k]), some_word(random, k, 1), random.choice(sides), random.choice(sides)
+
+
+def first_apart(one, other, words):
+    """Return the first of some words whose forms by two lists differ, or None."""
+    return first_in_order([word for word in words if slow_list(one, word) != slow_list(other, word)])
