@@ -310,7 +310,8 @@ class ShownTest(unittest.TestCase):
 
     def test_long_words(self):
         rule = read_rules(2, "a > b / _ #")
-        for many, expected in ((0, "apart"), (31, "apart"), (32, "apart"), (1999, "apart"), (2000, "none"), (5000, "none")):
+        for many, expected in ((0, "apart"), (31, "apart"), (32, "apart"), (1999, "apart"), (2000, "none"),
+                               (5000, "none")):
             self.assertEqual(shown(2, rule, (), ("apart", "b" * many + "a")), expected, many)
         source = random.Random(2622)
         for _ in range(100):

@@ -24,9 +24,9 @@ TALK = (("list one 2 " + EXAMPLE, "2"), ("list two 2 a > b / _ b", "1"), ("list 
         ("decide two two", "alike"), ("table two two", "2"), ("table one two", "none"), ("feeds one 0 one 1", "ab"),
         ("bleeds one 1 one 0", "none"), ("join both one two", "3"), ("show both", EXAMPLE + " ; a > b / _ b"),
         ("turn both one", "2"), ("show both", "a > b / b _ ; b > - / # _ b"), ("rename both one ba", "2"),
-        ("show both", "b > a / _ a ; a > - / a _ #"), ("list both 2 a > b / _ ; a > - / _", "2"), ("thin both both", "1"),
-        ("show both", "a > b / _"), ("learn new 2 1 ab bb ba ba", "1"), ("show new", "a > b / _ b"),
-        ("drop new", "ok"), ("show new", "unknown new"))
+        ("show both", "b > a / _ a ; a > - / a _ #"), ("list both 2 a > b / _ ; a > - / _", "2"),
+        ("thin both both", "1"), ("show both", "a > b / _"), ("learn new 2 1 ab bb ba ba", "1"),
+        ("show new", "a > b / _ b"), ("drop new", "ok"), ("show new", "unknown new"))
 
 
 def told_desk(*lines):
@@ -88,23 +88,24 @@ class TalkTest(DeskCase):
 class ChangingTest(DeskCase):
     def test_list(self):
         desk = Desk()
-        for line, answer in (("list a 2 none", "0"), ("list a 6 f > e / _", "1"), ("list a 2 a > b / _ ; a > - / _", "2"),
-                             ("list abcdefghijkl 3 c > - / # abc _ b #", "1")):
+        for line, answer in (("list a 2 none", "0"), ("list a 6 f > e / _", "1"),
+                             ("list a 2 a > b / _ ; a > - / _", "2"), ("list abcdefghijkl 3 c > - / # abc _ b #", "1")):
             self.assertEqual(desk.answer(line), answer)
         self.assertEqual(desk.thing("a"), (2, read_rules(2, "a > b / _ ; a > - / _")))
         eight = " ; ".join(["a > b / _"] * 8)
         self.assertEqual(desk.answer(f"list a 2 {eight}"), "8")
-        for line in ("list b 2", "list b 2 a", "list b 2 a > b / _ ;", f"list b 2 {eight} ; a > b / _", "list b 2 c > a / _",
-                     "list b 2 none none", "list b 1 none", "list b 0 none", "list b 7 none", "list b 99 none", "list a 2 -",
-                     "list a 1 a > b / _"):
+        for line in ("list b 2", "list b 2 a", "list b 2 a > b / _ ;", f"list b 2 {eight} ; a > b / _",
+                     "list b 2 c > a / _", "list b 2 none none", "list b 1 none", "list b 0 none", "list b 7 none",
+                     "list b 99 none", "list a 2 -", "list a 1 a > b / _"):
             self.check(desk, line, "refused")
-        for line in ("list", "list b", "list b -1 none", "list b 02 none", "list b 100 none", "list b two none", "list B 2 none",
-                     "list abcdefghijklm 2 none", "list b1 2 none", "list - 2 none"):
+        for line in ("list", "list b", "list b -1 none", "list b 02 none", "list b 100 none", "list b two none",
+                     "list B 2 none", "list abcdefghijklm 2 none", "list b1 2 none", "list - 2 none"):
             self.check(desk, line, "bad")
 
     def test_drop(self):
         desk = told_desk("list a 2 none", "list b 2 none")
-        self.assertEqual(desk.answers(["drop a", "drop a", "drop b", "list a 2 a > b / _"]), ["ok", "unknown a", "ok", "1"])
+        self.assertEqual(desk.answers(["drop a", "drop a", "drop b", "list a 2 a > b / _"]),
+                         ["ok", "unknown a", "ok", "1"])
         self.assertEqual(desk.names(), ["a"])
 
     def test_join(self):
@@ -148,8 +149,9 @@ class ChangingTest(DeskCase):
         pairs = " ".join(["a", "b"] * 40)
         self.assertEqual(desk.answer(f"learn b 2 1 {pairs}"), "1")
         long = "a" * 61
-        for line in ("learn a 2 1 a", "learn a 2 1 a b a", "learn a 4 1", "learn a 1 1 a a", "learn a 2 3 a b", "learn a 2 99",
-                     "learn a 2 1 c a", f"learn a 2 1 {long} a", f"learn b 2 1 {pairs} a b", "learn c 2 1 a --"):
+        for line in ("learn a 2 1 a", "learn a 2 1 a b a", "learn a 4 1", "learn a 1 1 a a", "learn a 2 3 a b",
+                     "learn a 2 99", "learn a 2 1 c a", f"learn a 2 1 {long} a", f"learn b 2 1 {pairs} a b",
+                     "learn c 2 1 a --"):
             self.check(desk, line, "refused")
         for line in ("learn a 2", "learn a", "learn a 2 x", "learn a 2 -1 a b", "learn A 2 1 a b", "learn a 02 1"):
             self.check(desk, line, "bad")
@@ -167,8 +169,9 @@ class AskingTest(DeskCase):
         desk = told_desk("list a 2 " + EXAMPLE, "list e 2 none", "list x 2 a > - / _ ; b > - / _")
         for line, answer in (("form a -", "-"), ("form e -", "-"), ("form x abab", "-"), ("form e abab", "abab"),
                              ("steps a -", "- - -"), ("steps e -", "-"), ("steps e ab", "ab"), ("steps x ab", "ab b -"),
-                             ("pieces a -", "empty"), ("pieces x ab", "- -"), ("pieces e ab", "a b"), ("acting a -", "empty"),
-                             ("acting x ab", "0 1"), ("acting x b", "1"), ("acting e ab", "empty")):
+                             ("pieces a -", "empty"), ("pieces x ab", "- -"), ("pieces e ab", "a b"),
+                             ("acting a -", "empty"), ("acting x ab", "0 1"), ("acting x b", "1"),
+                             ("acting e ab", "empty")):
             self.check(desk, line, answer)
         grow = told_desk("list a 2 " + " ; ".join(["a > aaa / _"] * 4))
         for command in ("form", "steps", "pieces", "acting"):
@@ -188,10 +191,11 @@ class AskingTest(DeskCase):
                              ("sources a ba 3", "0 0 2 0"), ("sources e - 0", "1"), ("sources e ab 0", "0"),
                              ("sources d - 60", " ".join(["1"] * 61))):
             self.check(desk, line, answer)
-        for line in ("sources d b 61", "sources d b 99", "sources d c 2", "first d c", "endless d c", "first a " + "a" * 61):
+        for line in ("sources d b 61", "sources d b 99", "sources d c 2", "first d c", "endless d c",
+                     "first a " + "a" * 61):
             self.check(desk, line, "refused")
-        for line in ("sources d b", "sources d b 100", "sources d b 00", "sources d b -1", "sources d b x", "first d", "endless",
-                     "sources d b 1 1"):
+        for line in ("sources d b", "sources d b 100", "sources d b 00", "sources d b -1", "sources d b x", "first d",
+                     "endless", "sources d b 1 1"):
             self.check(desk, line, "bad")
 
     def test_machines(self):
@@ -217,8 +221,8 @@ class AskingTest(DeskCase):
     def test_two_lists(self):
         desk = told_desk("list a 2 a > b / _ b", "list b 2 none", "list c 2 a > b / _ b ; a > a / _", "list d 3 none")
         for line, answer in (("alike a b", "ab"), ("alike b a", "ab"), ("alike a c", "yes"), ("alike a a", "yes"),
-                             ("decide a b", "apart"), ("decide a c", "alike"), ("decide d d", "alike"), ("table a b", "none"),
-                             ("table a c", "2"), ("table b b", "1"), ("table d d", "1")):
+                             ("decide a b", "apart"), ("decide a c", "alike"), ("decide d d", "alike"),
+                             ("table a b", "none"), ("table a c", "2"), ("table b b", "1"), ("table d d", "1")):
             self.check(desk, line, answer)
         for command in ("alike", "decide", "table"):
             for line in (f"{command} a d", f"{command} d a", f"{command} d b"):
@@ -231,12 +235,13 @@ class AskingTest(DeskCase):
     def test_feeds_and_bleeds(self):
         desk = told_desk("list a 2 a > b / _ b ; b > a / _ b", "list b 2 b > a / _", "list c 3 none", "list e 2 none",
                          "list f 2 a > aa / _", "list g 3 c > a / _")
-        for line, answer in (("feeds a 0 a 1", "ab"), ("bleeds a 1 a 0", "none"), ("bleeds a 0 a 0", "ab"), ("feeds b 0 a 1", "none"),
-                             ("bleeds b 0 a 1", "bb"), ("feeds a 0 a 0", "none"), ("feeds f 0 a 0", "none"),
-                             ("feeds g 0 g 0", "none"), ("bleeds g 0 g 0", "c")):
+        for line, answer in (("feeds a 0 a 1", "ab"), ("bleeds a 1 a 0", "none"), ("bleeds a 0 a 0", "ab"),
+                             ("feeds b 0 a 1", "none"), ("bleeds b 0 a 1", "bb"), ("feeds a 0 a 0", "none"),
+                             ("feeds f 0 a 0", "none"), ("feeds g 0 g 0", "none"), ("bleeds g 0 g 0", "c")):
             self.check(desk, line, answer)
         for command in ("feeds", "bleeds"):
-            for rest in ("a 2 a 0", "a 0 a 2", "a 99 b 0", "e 0 a 0", "a 0 e 0", "a 0 c 0", "c 0 a 0", "a 0 g 0", "g 0 a 0"):
+            for rest in ("a 2 a 0", "a 0 a 2", "a 99 b 0", "e 0 a 0", "a 0 e 0", "a 0 c 0", "c 0 a 0", "a 0 g 0",
+                         "g 0 a 0"):
                 self.check(desk, f"{command} {rest}", "refused")
             for rest in ("", " a", " a 0", " a 0 b", " a 0 b 0 0", " a b 0 0", " a -1 b 0", " a 00 b 0", " a 100 b 0"):
                 self.check(desk, command + rest, "bad")
@@ -247,8 +252,9 @@ class AskingTest(DeskCase):
         desk = told_desk("list m 2 " + text_of_rules(2, MANY_STATES), "list s 2 " + text_of_rules(2, SIXTY_ONE),
                          "list p 6 " + text_of_rules(6, MANY_PLACES), "list a 2 a > b / _")
         for name in "ms":
-            for line in ("machine L", "single L", "missing L", "needless L", "steady L", "thin x L", "alike L a", "alike a L",
-                         "decide L L", "decide a L", "table L L", "first L -", "endless L -", "sources L - 1"):
+            for line in ("machine L", "single L", "missing L", "needless L", "steady L", "thin x L", "alike L a",
+                         "alike a L", "decide L L", "decide a L", "table L L", "first L -", "endless L -",
+                         "sources L - 1"):
                 self.check(desk, line.replace("L", name), "refused")
         self.check(desk, "idle p", "refused")
         self.check(desk, "form s a", desk.answer("steps s a").split(" ")[-1])
@@ -257,15 +263,17 @@ class AskingTest(DeskCase):
 class WrongLinesTest(DeskCase):
     def test_malformed_lines_and_commands(self):
         desk = told_desk("list a 2 none")
-        for line in ("", " ", " show a", "show a ", "show  a", "show\ta", "show a\n", "show \u00e9", "Show a", "SHOW a", "shows a",
-                     "a", "a a", "-", "list\u00a0a", "form a \x7f", "#", "table", "form_of a a", "read a", "keep", "names"):
+        for line in ("", " ", " show a", "show a ", "show  a", "show\ta", "show a\n", "show \u00e9", "Show a", "SHOW a",
+                     "shows a", "a", "a a", "-", "list\u00a0a", "form a \x7f", "#", "table", "form_of a a", "read a",
+                     "keep", "names"):
             self.check(desk, line, "bad")
 
     def test_the_number_of_words(self):
         desk = told_desk("list a 2 a > b / _", "list b 2 none")
         right = {"drop": 1, "show": 1, "join": 3, "turn": 2, "rename": 3, "thin": 2, "form": 2, "steps": 2, "pieces": 2,
-                 "acting": 2, "first": 2, "endless": 2, "sources": 3, "machine": 1, "single": 1, "missing": 1, "needless": 1,
-                 "idle": 1, "steady": 1, "orders": 1, "alike": 2, "decide": 2, "table": 2, "feeds": 4, "bleeds": 4}
+                 "acting": 2, "first": 2, "endless": 2, "sources": 3, "machine": 1, "single": 1, "missing": 1,
+                 "needless": 1, "idle": 1, "steady": 1, "orders": 1, "alike": 2, "decide": 2, "table": 2, "feeds": 4,
+                 "bleeds": 4}
         for command, many in right.items():
             for number in range(7):
                 if number != many:
@@ -280,13 +288,14 @@ class WrongLinesTest(DeskCase):
         desk = told_desk("list a 2 a > b / _", "list c 3 none")
         for line, answer in (
                 ("sources x c 100", "bad"), ("sources x c 99", "unknown x"), ("sources a c 99", "refused"),
-                ("rename B x q", "bad"), ("rename b x q", "unknown x"), ("rename b a q", "refused"), ("join b X c", "bad"),
-                ("join b x a", "unknown x"), ("join b a x", "unknown x"), ("join b a c", "refused"), ("drop A", "bad"),
-                ("drop b", "unknown b"), ("show abcdefghijklm", "bad"), ("show abcdefghijkl", "unknown abcdefghijkl"),
-                ("feeds x 0 a 100", "bad"), ("feeds a 0 c 0", "refused"), ("feeds a 7 x 7", "unknown x"), ("alike c x", "unknown x"),
-                ("list b 2", "refused"), ("list b", "bad"), ("list b 100", "bad"), ("list b 7 x", "refused"),
-                ("learn b 2 1 x", "refused"), ("learn b 2 100 x", "bad"), ("form x", "bad"), ("form x c", "unknown x"),
-                ("form a c", "refused"), ("orders b", "unknown b")):
+                ("rename B x q", "bad"), ("rename b x q", "unknown x"), ("rename b a q", "refused"),
+                ("join b X c", "bad"), ("join b x a", "unknown x"), ("join b a x", "unknown x"),
+                ("join b a c", "refused"), ("drop A", "bad"), ("drop b", "unknown b"), ("show abcdefghijklm", "bad"),
+                ("show abcdefghijkl", "unknown abcdefghijkl"), ("feeds x 0 a 100", "bad"), ("feeds a 0 c 0", "refused"),
+                ("feeds a 7 x 7", "unknown x"), ("alike c x", "unknown x"), ("list b 2", "refused"), ("list b", "bad"),
+                ("list b 100", "bad"), ("list b 7 x", "refused"), ("learn b 2 1 x", "refused"),
+                ("learn b 2 100 x", "bad"), ("form x", "bad"), ("form x c", "unknown x"), ("form a c", "refused"),
+                ("orders b", "unknown b")):
             self.check(desk, line, answer)
 
 
@@ -315,8 +324,9 @@ class AgreeingTest(DeskCase):
         for _ in range(6):
             k = source.randint(2, 6)
             desk = told_desk(f"list a {k} " + text_of_rules(k, some_list(source, k, 4)), f"list b {k} none")
-            for line in ("machine a", "single a", "needless a", "idle a", "steady a", "orders a", "alike a b", "decide a b",
-                         "table a a", "thin c a", "turn c a", "join c a a", "first a ab", "endless a ab", "sources a ab 60"):
+            for line in ("machine a", "single a", "needless a", "idle a", "steady a", "orders a", "alike a b",
+                         "decide a b", "table a a", "thin c a", "turn c a", "join c a a", "first a ab", "endless a ab",
+                         "sources a ab 60"):
                 self.assertNotIn(desk.answer(line).split(" ")[0], ("bad", "unknown"))
         self.assertLess(process_time() - begin, 40)
 

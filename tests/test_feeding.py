@@ -64,7 +64,8 @@ class FeedingTest(unittest.TestCase):
                 ("a > - / _", "b > a / a _", None, "ab"), ("a > b / # _ #", "b > a / # _ #", "a", None),
                 ("a > ba / a _", "b > a / a _ a", "aa", None), ("a > - / # _", "b > a / # a _", "aab", "ab"),
                 ("a > a / _", "a > b / _", None, None), ("a > b / a _", "b > b / b b _ b b", "aaaaaa", None),
-                ("a > aba / _ #", "b > a / # ab _", "a", None), ("a > - / _ a #", "a > b / # ab _ ab #", "aaaa", "aaa")):
+                ("a > aba / _ #", "b > a / # ab _", "a", None),
+                ("a > - / _ a #", "a > b / # ab _ ab #", "aaaa", "aaa")):
             one, other = read_rule(2, one), read_rule(2, other)
             told = self.check(2, one, other, SHORT)
             self.assertEqual(told, (fed, bled), (one, other))

@@ -129,7 +129,8 @@ class ExplainsTest(unittest.TestCase):
             with self.assertRaises(TooLarge):
                 form_of(2, rules, "a" * 60)
         # Of the letters of all words that are made only those at the right end stay.
-        rules = grow + (("b", "ab", (), ()), ("a", "bba", ("b",), ("a",)), ("b", "", ("ab",), ("ab",)), ("a", "", (), ()))
+        rules = grow + (("b", "ab", (), ()), ("a", "bba", ("b",), ("a",)), ("b", "", ("ab",), ("ab",)),
+                        ("a", "", (), ()))
         for word in ("a" * 60, "ab" * 30, "b" * 60, "aab" * 20, "abbb" * 15):
             self.assertLessEqual(len(slow_list(rules, word)), 60)
             self.assertIs(explains(2, rules, [(word, slow_list(rules, word))]), True)

@@ -11,6 +11,14 @@ PACKAGE = Path(__file__).resolve().parent.parent / "soundturns"
 CLASSES = {
     "errors": ("ShiftError", "NotWord", "NotRule", "NotMachine", "NotLanguage", "NotBook",
                "BadNumber", "NoAnswer", "TooLarge", "OpenTrial", "Malformed", "BadJournal"),
+    "desk": ("Desk",),
+    "journal": ("Journal",),
+}
+
+METHODS = {
+    ("desk", "Desk"): ("answer(self, line)", "answers(self, lines)", "names(self)", "thing(self, name)"),
+    ("journal", "Journal"): ("answer(self, line)", "record(self)", "lines(self)", "keep(self)", "__enter__(self)",
+                             "__exit__(self, kind, value, trace)"),
 }
 
 FUNCTIONS = {
@@ -54,6 +62,18 @@ FUNCTIONS = {
               "told_back(book, word)", "fallen(book)", "cell_machine(book, index, cell)",
               "falls_together(book, one, other)", "classes_differ(book, one, other)",
               "stems_of(book, index, cell, word)", "stems_like(book, index, forms)", "guesses(book, word)"),
+    "orders": ("are_alike(k, one, other)", "change_places(k, one, other)", "clash(k, one, other)", "needless(k, rules)",
+               "thinned(k, rules)", "orders(k, rules)", "is_steady(k, rules)", "unsteady(k, rules)",
+               "same_times(k, rules, most)"),
+    "feeding": ("feeding(k, one, other)", "bleeding(k, one, other)", "is_met(k, rule, word)",
+                "first_acting(k, rules, index)", "idle(k, rules)"),
+    "finding": ("simple_rules(k, n)", "explains(k, rules, pairs)", "explaining(k, n, pairs)", "first_rule(k, n, pairs)",
+                "first_list(k, n, m, pairs)", "first_question(k, n, pairs)"),
+    "papers": ("paper_of(k, rules)", "last_machine(k, paper)", "decide(k, one, other)", "shows(answer)"),
+    "certificates": ("is_paper(k, rules, paper)", "shown(k, one, other, answer)", "table_shown(one, other, table)",
+                     "pair_shown(machine, one, other)", "places_shown(machine, places)"),
+    "lines": ("words_of(line)", "is_name(word)", "number_in(word)", "told(text)", "untold(word)"),
+    "journal": ("attempt(journal, lines, *, keep=False)", "resume(text)"),
 }
 
 
@@ -64,6 +84,25 @@ def defined_names(module):
 
 
 class InterfaceTest(unittest.TestCase):
+    def test_methods(self):
+        for (module, name), calls in METHODS.items():
+            found = getattr(importlib.import_module(f"soundturns.{module}"), name)
+            self.assertEqual(str(inspect.signature(found)), "()")
+            for call in calls:
+                with self.subTest(name=name, call=call):
+                    method, arguments = call.split("(", 1)
+                    # Defined in the class itself, not in a base class.
+                    self.assertIn(method, vars(found))
+                    self.assertEqual(str(inspect.signature(vars(found)[method])), "(" + arguments)
+
+    def test_every_function_has_a_docstring(self):
+        for path in PACKAGE.glob("*.py"):
+            tree = ast.parse(path.read_text(encoding="utf-8"))
+            self.assertIsNotNone(ast.get_docstring(tree), path)
+            for node in tree.body:
+                if isinstance(node, (ast.FunctionDef, ast.ClassDef)):
+                    self.assertIsNotNone(ast.get_docstring(node), (path, node.name))
+
     def test_classes(self):
         for module, names in CLASSES.items():
             for name in names:

@@ -90,7 +90,8 @@ class ResumeTest(unittest.TestCase):
         journal = resume(full)
         self.assertEqual((journal.record(), journal.lines()), (full, LINES))
         for line in ("show both", "drop one", "show one"):
-            self.assertEqual(journal.answer(line), told_journal(LINES + ["drop one"] * (line == "show one")).answer(line))
+            self.assertEqual(journal.answer(line),
+                             told_journal(LINES + ["drop one"] * (line == "show one")).answer(line))
         self.assertEqual(resume("").record(), "")
 
     def test_what_stands_behind_the_last_newline(self):
@@ -112,14 +113,16 @@ class ResumeTest(unittest.TestCase):
         rows = told_journal(["list a 2 a > b / _ b", "form a ab", "", "show b"]).record().split("\n")[:-1]
         self.assertEqual(len(rows), 8)
         for at, row in enumerate(rows):
-            wrongs = ["", "x", row[1:], row[2:], " " + row, "<" + row[1:] if at % 2 == 0 else ">" + row[1:], row[0] + row[2:]]
+            wrongs = ["", "x", row[1:], row[2:], " " + row, "<" + row[1:] if at % 2 == 0 else ">" + row[1:],
+                      row[0] + row[2:]]
             if at % 2 == 0:
                 wrongs += ["> \x00", "> \u00e9", row + "\t", row + "\r"]
             else:
                 wrongs += [row + " ", row + "x", row[:-1], "< ", "<", "< " + row, row.upper()]
             for wrong in wrongs:
                 if wrong != row:
-                    for begin in (rows[:at] + [wrong] + rows[at + 1:], rows[:at] + [wrong], rows[:at] + [wrong] + ["x"] * 3):
+                    for begin in (rows[:at] + [wrong] + rows[at + 1:], rows[:at] + [wrong],
+                                  rows[:at] + [wrong] + ["x"] * 3):
                         with self.assertRaises(BadJournal) as caught:
                             resume("\n".join(begin) + "\n")
                         self.assertEqual(caught.exception.row, at, (wrong, begin))

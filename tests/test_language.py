@@ -120,6 +120,67 @@ class LanguageTest(unittest.TestCase):
         self.assertEqual(stored & builtin, set())
         self.assertEqual(stored & own_methods(), set())
 
+    def test_words_that_are_not_used(self):
+        nowhere = set("register mro elements open input law version_info with_traceback add_note".split())
+        names = set("attrgetter breakpoint builtins compile copyright credits delattr dir eval exec exit gc getattr"
+                    " globals hasattr help id importlib license locals methodcaller os quit setattr super type vars sys"
+                    " map filter format hash next iter object print slice round".split())
+        for path, node in nodes():
+            if isinstance(node, ast.Attribute):
+                self.assertNotIn(node.attr, nowhere, path)
+            found = getattr(node, "id", getattr(node, "arg", getattr(node, "name", None)))
+            if isinstance(found, str):
+                self.assertNotIn(found, nowhere | names, path)
+        words = ("typing", "enum", "Enum", "Flag", "Generic", "Protocol", "ABC", "namedtuple", "dataclass", "overload",
+                 "contextmanager", "abstractmethod")
+        for path, text in sources():
+            for word in words:
+                self.assertNotRegex(text, rf"\b{word}\b", path)
+
+    def test_what_stands_behind_a_star(self):
+        for path, node in nodes():
+            if isinstance(node, ast.Call) and any(isinstance(part, ast.Starred) for part in node.args):
+                self.assertEqual(node.keywords, [], path)
+                for part in node.args:
+                    held = part.value if isinstance(part, ast.Starred) else part
+                    self.assertIsInstance(held, (ast.Name, ast.Attribute, ast.Constant), (path, node.lineno))
+
+    def test_what_an_exit_does(self):
+        exits = [(path, node) for path, node in nodes() if isinstance(node,
+                                                                      ast.FunctionDef) and node.name == "__exit__"]
+        self.assertEqual(len(exits), 1)
+        for path, node in exits:
+            for part in ast.walk(ast.Module(body=node.body, type_ignores=[])):
+                self.assertIsInstance(part, (ast.Module, ast.If, ast.BoolOp, ast.And, ast.Or, ast.UnaryOp, ast.Not,
+                                             ast.Compare, ast.Is, ast.IsNot, ast.Name, ast.Attribute, ast.Constant,
+                                             ast.Assign, ast.Load, ast.Store), path)
+
+    def test_lists_at_module_level_are_not_handed_on(self):
+        for path, text in sources():
+            tree = ast.parse(text)
+            tables = {target.id for node in tree.body if isinstance(node, ast.Assign)
+                      and isinstance(node.value, (ast.List, ast.Dict)) for target in node.targets}
+            imported = {part.name for node in tree.body if isinstance(node, ast.ImportFrom) for part in node.names}
+            for node in ast.walk(tree):
+                if isinstance(node, (ast.Call, ast.Return)):
+                    given = node.args if isinstance(node, ast.Call) else [node.value]
+                    for part in given:
+                        if isinstance(part, ast.Name) and part.id in tables | imported & {"MAKERS", "TELLERS", "TAKEN"}:
+                            self.assertIn(getattr(getattr(node, "func", None), "id", ""), ("len", "sorted", "list",
+                                                                                           "dict"))
+
+    def test_the_same_name_is_bound_once(self):
+        for path, text in sources():
+            names = []
+            for node in ast.parse(text).body:
+                if isinstance(node, (ast.FunctionDef, ast.ClassDef)):
+                    names.append(node.name)
+                elif isinstance(node, ast.Assign):
+                    names.extend(target.id for target in node.targets)
+                elif isinstance(node, ast.ImportFrom):
+                    names.extend(part.name for part in node.names)
+            self.assertEqual(len(names), len(set(names)), path)
+
     def test_no_two_files_import_from_each_other(self):
         found = {path.stem: {node.module.split(".")[1] for node in ast.parse(text).body
                              if isinstance(node, ast.ImportFrom) and node.module not in LIBRARY}

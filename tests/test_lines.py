@@ -14,8 +14,9 @@ class WordsOfTest(unittest.TestCase):
             self.assertEqual(words_of(line), words)
 
     def test_malformed(self):
-        for line in ("", " ", "  ", " a", "a ", "a  b", "a b ", " a b", "a   b", "  a", "a  ", "a\tb", "a\nb", "a\n", "\n",
-                     "a\rb", "\u00e9", "a \u00a0 b", "a\u2003b", "\x00", "a \x1f", "\x7f", "a\x7f", "a \u0080", "\u0131 b"):
+        for line in ("", " ", "  ", " a", "a ", "a  b", "a b ", " a b", "a   b", "  a", "a  ", "a\tb", "a\nb", "a\n",
+                     "\n", "a\rb", "\u00e9", "a \u00a0 b", "a\u2003b", "\x00", "a \x1f", "\x7f", "a\x7f", "a \u0080",
+                     "\u0131 b"):
             self.assertIsNone(words_of(line), repr(line))
 
     def test_all_characters(self):

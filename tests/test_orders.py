@@ -301,7 +301,8 @@ class SameTimesTest(unittest.TestCase):
         self.assertEqual([same_times(3, two, most) for most in (2, 3, 6)], [None, (1, 3), (1, 3)])
         three = read_rules(4, "a > da / _ ; c > a / _ ; b > c / _ ; a > b / d _ ; d > - / _")
         self.assertEqual([slow_list(three, letter) for letter in "abcd"], ["b", "c", "a", ""])
-        self.assertEqual([same_times(4, three, most) for most in range(1, 7)], [None, None, None, (1, 4), (1, 4), (1, 4)])
+        self.assertEqual([same_times(4, three, most) for most in range(1, 7)],
+                         [None, None, None, (1, 4), (1, 4), (1, 4)])
 
     def test_by_words(self):
         source = random.Random(229)
