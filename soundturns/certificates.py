@@ -24,7 +24,7 @@ MOST_STATES = 2000
 
 def _is_number(number, least, end):
     """Return True if a value is an integer from `least` on, below `end`, otherwise False."""
-    return isinstance(number, int) and not isinstance(number, bool) and least <= number < end
+    return isinstance(number, int) and least <= number < end
 
 
 def _is_of(letters, text):

@@ -64,7 +64,6 @@ def _rule(thing, index):
 
 def _machines(one, other):
     """Return the machines of two things."""
-    _check_letters(one, other)
     return list_machine(*one), list_machine(*other)
 
 

@@ -70,9 +70,8 @@ def _first_met(rule, one, other):
     A place tells of both machines the state and what `watch` tells of what they have written.
     """
     watch = Watch(rule)
-    start = (0, watch.read("", one[1]), 0, watch.read("", other[1]))
-    if _shows(watch, one, other, start):
-        return ""
+    # Both machines leave the empty word as it is, and no rule stands in it.
+    start = (0, "", 0, "")
     words = {start: ""}
     todo = [start]
     at = 0

@@ -29,8 +29,8 @@ OTHER_FORMS = ((), ("",), (2, ""), (2, "", ()), (2, "", ((),)), (2, "", (("", ()
                (2, "", (("", (("", 0),)),)), (2, "", (("", (("a", 0), ("b", 0), ("c", 0))),)), (2, "", 0),
                (2, "", ("", "")), (2, 0, (("", (("a", 0), ("b", 0))),)), (2, "", ((0, (("a", 0), ("b", 0))),)),
                (2, "", (("", (("a", "0"), ("b", 0))),)), (True, "", (("", (("a", 0), ("b", 0))),)), 0, "", None, [])
-NO_MACHINES = (ring(2001), (1, "", (("", (("a", 0),)),)), (7, "", (("", (("a", 0),) * 7),)), (2, "c", ring(1)[2]),
-               (2, "", (("", (("a", 1), ("b", 0))),)), (2, "", (("", (("a", -1), ("b", 0))),)),
+NO_MACHINES = (ring(2001), (1, "", (("", (("a", 0),)),)), (7, "", (("", (("a", 0),) * 7),)), (7, "", still(6)[2]),
+               (2, "c", ring(1)[2]), (2, "", (("", (("a", 1), ("b", 0))),)), (2, "", (("", (("a", -1), ("b", 0))),)),
                (2, "", (("", (("a" * 61, 0), ("b", 0))),)), (2, "a" * 61, ring(1)[2]),
                (2, "", (("b" * 61, (("a", 0), ("b", 0))),)), (10 ** 5000, "", ring(1)[2]), (3, "", ring(1)[2]))
 
@@ -191,6 +191,12 @@ class PaperTest(unittest.TestCase):
         around = [(t, s, (y, x)) for s, t, (x, y) in paper[0][3]]
         self.assertIs(is_paper(2, rules, [(one, first, late, around)]), False)
 
+    def test_machines_of_other_letters(self):
+        rules = (("a", "a", (), ()),)
+        table = [(0, 0, ("", ""))]
+        for one, made, expected in ((2, 2, True), (3, 2, False), (2, 3, False), (3, 3, False)):
+            self.assertIs(is_paper(2, rules, [(still(one), table, still(made), table)]), expected)
+
     def test_parts_in_another_order(self):
         one, first, made, second = paper_of(2, RULES)[1]
         begin = paper_of(2, RULES)[:1]
@@ -321,6 +327,17 @@ class ShownTest(unittest.TestCase):
             self.assertEqual(shown(k, one, other, ("apart", word)),
                              "none" if slow_list(one, word) == slow_list(other, word) else "apart")
 
+    def test_rules_at_each_index_of_long_words(self):
+        for left in ((), ("a",), ("a", "a"), ("a", "b"), ("#", "a"), ("#",)):
+            for right in ((), ("a",), ("a", "a"), ("b", "a"), ("a", "#"), ("#",)):
+                for new in ("a", "", "bab"):
+                    rule = ("b", new, left, right)
+                    for at in (0, 1, 2, 29, 30, 31, 32, 33, 34, 61, 62, 63, 64, 65, 66):
+                        word = "a" * at + "b" + "a" * (66 - at)
+                        for given in (word, word[:33], word[:65]):
+                            expected = "none" if slow_list((rule,), given) == given else "apart"
+                            self.assertEqual(shown(2, (rule,), (), ("apart", given)), expected, (rule, given))
+
     def test_other_words(self):
         rules = read_rules(2, "a > b / _")
         for word in ("c", "ac", "a ", "A", "a\n", "#a", "\u00e4", "-", None, 7, ["a"], ("a",)):
@@ -421,7 +438,7 @@ class TableTest(unittest.TestCase):
         self.assertIs(table_shown(MACHINE, least(MACHINE), table[::-1]), True)
         for given in [*changed_entries(table), [], tuple(table), None, "table", [()], [table], [(0, 0)], [(0, 0, ())],
                       table + [(0, 0, ("",))], table + [(0, 0, ("", "", ""))], table + [(0, 0, ["", ""])],
-                      table + [("0", 0, ("", ""))], table + [(0, None, ("", ""))], table + [(True, 1, ("", ""))],
+                      table + [("0", 0, ("", ""))], table + [(0, None, ("", ""))], table + [(0, 0, ("", 0))],
                       table + [(0, 0, (0, ""))], table + [[0, 0, ("", "")]], [list(entry) for entry in table]]:
             self.assertIs(table_shown(MACHINE, least(MACHINE), given), False, given)
         for machine in changed_machines(least(MACHINE)):
@@ -430,6 +447,14 @@ class TableTest(unittest.TestCase):
                     self.assertIs(table_shown(MACHINE, machine, table), False)
                 except NotMachine:
                     pass
+
+    def test_tuples_that_only_follow_one_another(self):
+        begin = [(0, 0, ("", ""))]
+        self.assertIs(table_shown(still(2), still(2), begin), True)
+        for entry in ((-1, 0, ("", "")), (0, -1, ("", "")), (-1, -1, ("", "")), (0, 0, ("a", "a")), (0, 1, ("", ""))):
+            self.assertIs(table_shown(still(2), still(2), begin + [entry]), False, entry)
+        changes_end = (2, "", (("a", (("a", 0), ("b", 0))),))
+        self.assertIs(table_shown(still(2), changes_end, begin), False)
 
     def test_numbers_of_letters(self):
         for k in range(2, 7):
@@ -518,6 +543,21 @@ class PlacesTest(unittest.TestCase):
         unused = (2, "", still(2)[2] + (("", (("", 1), ("", 1))),))
         self.assertIs(places_shown(unused, closed_places(still(2))), True)
 
+    def test_states_that_long_words_reach(self):
+        for merging in range(5):
+            rows = [("", (("a", min(at + 1, 4)), ("a" if at == merging else "b", min(at + 1, 4)))) for at in range(5)]
+            copying = rows[:merging] + [("", (("a", min(merging + 1, 4)), ("b", min(merging + 1, 4))))]
+            places = closed_places((2, "", tuple(copying + rows[merging + 1:])))
+            self.assertIs(places_shown((2, "", tuple(copying + rows[merging + 1:])), places), True)
+            self.assertIs(places_shown((2, "", tuple(rows)), places), False)
+
+    def test_places_that_are_done_or_none(self):
+        begin = closed_places(still(2))
+        for place in ((-1, -1, ("", "")), (0, 0, ("a", "a")), (-2, -2, ("", "")), (0, 1, ("a", "")),
+                      (-1, -1, ("a", "a"))):
+            self.assertIs(places_shown(still(2), begin + [place]), False, place)
+        self.assertIs(places_shown(still(2), begin + [(-1, -1, ("a", ""))]), True)
+
     def test_one_thing_changed(self):
         machine = rule_machine(2, ("a", "ba", (), ("b",)))
         places = closed_places(machine)
@@ -526,7 +566,7 @@ class PlacesTest(unittest.TestCase):
             self.assertIs(places_shown(machine, given), False, given)
         for given in ([], places[:-1], places[1:], tuple(places), None, "places", [()], [(0, 0)], [(0, 0, ())],
                       places + [(0, 0, ("", "", ""))], places + [[0, 0, ("", "")]], places + [(0, 0, ["", ""])],
-                      places + [("0", 0, ("", ""))], places + [(0, 0, (0, ""))], places + [(False, 0, ("", ""))],
+                      places + [("0", 0, ("", ""))], places + [(0, 0, (0, ""))], places + [(0, 0, ("", 0))],
                       [list(place) for place in places], places + [(0, 0, ("a", "a"))], places + [(-2, 0, ("", ""))],
                       places + [(0, len(machine[2]), ("", ""))], places + [(0, 0, ("c", ""))]):
             self.assertIs(places_shown(machine, given), False, given)

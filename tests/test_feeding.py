@@ -111,9 +111,9 @@ class FeedingTest(unittest.TestCase):
         source = random.Random(2231)
         begin = process_time()
         words = words_up_to(6, 3)
-        for _ in range(60):
+        for _ in range(30):
             self.check(6, small_rule(source, 6), small_rule(source, 6), words)
-        for _ in range(40):
+        for _ in range(25):
             one, other = some_rule(source, 6), some_rule(source, 6)
             for told, slow in ((feeding(6, one, other), slow_feeding), (bleeding(6, one, other), slow_bleeding)):
                 if told is not None:

@@ -353,12 +353,12 @@ class FirstQuestionTest(unittest.TestCase):
         self.assertEqual(len({list_machine(k, (found,)) for found in explaining(k, n, pairs)}), 1)
 
     def test_questions_one_after_another(self):
-        for rule in simple_rules(2, 1):
+        for rule in simple_rules(2, 1)[::2]:
             self.check_questions(2, 1, rule)
         source = random.Random(245)
-        for rule in source.sample(simple_rules(2, 2), 40):
+        for rule in source.sample(simple_rules(2, 2), 20):
             self.check_questions(2, 2, rule)
-        for rule in source.sample(simple_rules(3, 2), 15):
+        for rule in source.sample(simple_rules(3, 2), 8):
             self.check_questions(3, 2, rule)
 
     def test_no_answer(self):

@@ -164,7 +164,7 @@ class NeedlessTest(unittest.TestCase):
     def test_by_machines_and_words(self):
         source = random.Random(223)
         shorter = 0
-        for _ in range(400):
+        for _ in range(250):
             k = source.choice((2, 2, 3))
             rules = some_small_list(source, k, 5)
             self.assertEqual(needless(k, rules), slow_needless(k, rules))
@@ -175,7 +175,7 @@ class NeedlessTest(unittest.TestCase):
             self.assertIs(are_alike(k, left, rules), True)
             self.assertIsNone(first_apart(left, rules, words_up_to(k, 4)))
             shorter += len(left) < len(rules)
-        self.assertGreater(shorter, 50)
+        self.assertGreater(shorter, 40)
 
     def test_eight_rules_of_six_letters(self):
         source = random.Random(224)

@@ -136,7 +136,8 @@ class DecideTest(unittest.TestCase):
         for k in BAD_NUMBERS:
             with self.assertRaises(BadNumber):
                 decide(k, bad, bad)
-        for one, other in ((bad, SIXTY_ONE), (SIXTY_ONE, bad), (bad, ()), ((), bad), ((), (("a", "", (), ()),) * 9)):
+        for one, other in ((bad, SIXTY_ONE), (SIXTY_ONE, bad), (bad, ()), ((), bad), ((), (("a", "", (), ()),) * 9),
+                           ((("a", "", (), ()),) * 9, ()), (SIXTY_ONE + bad, ())):
             with self.assertRaises(NotRule):
                 decide(2, one, other)
         for one, other in ((SIXTY_ONE, ()), ((), SIXTY_ONE), (MANY_STATES, MANY_STATES), ((), MANY_STATES)):
